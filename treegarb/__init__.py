@@ -1,0 +1,1 @@
+"""Treegarb: style sheets, decided for all documents at once."""
