@@ -30,6 +30,25 @@ INTERFACE = {
         "check_list": ["value"],
         "weight": ["selector"],
     },
+    "matching": {
+        "matches": ["document", "place", "selector"],
+        "matching": ["document", "selectors"],
+    },
+    "notation": {
+        "selectors_text": ["selectors"],
+        "parse_selectors": ["text"],
+    },
+    "walks": {
+        "letters": ["first", "second"],
+        "walk_document": ["walk"],
+        "start_state": ["first", "second", "letter"],
+        "next_state": ["first", "second", "state", "move", "letter"],
+        "is_bad": ["first", "second", "state"],
+    },
+    "deciding": {
+        "contained": ["first", "second"],
+        "accepts": ["first", "second", "table"],
+    },
 }
 
 # What may be imported from outside of the package: none of it tells the time,
