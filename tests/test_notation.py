@@ -87,7 +87,7 @@ WRONG = {
     "capital letters": ["A", "aB", "a.X", "a!B", "a!.X", "a > B", "Kind"],
     "digits in names": ["a1", "1", "a.x1", "a!2", "a!.x2", "a b2", "0"],
     "an empty part": ["a > > b", "> a", "a >", ">", "a > ", "+ a", "a ~", "a, > b", "a + ~ b", "a, , b", "~", "+"],
-    "no kind": ["!a", "!.x", ":2+1", "a > !b", "a, :2+1", "!a.x"],
+    "no kind": [".x", ".x.y", "a > .x", ".x ~ *", "a, .x", "!a", "!.x", ":2+1", "a > !b", "a, :2+1", "!a.x"],
     "an empty name": ["a.", "a..x", "*.", "a!", "a!.", "a!!b", "a!..x", "*.x.", ".", "..x", "!", "a.:2+1", "a!:2+1"],
     "beyond ASCII": [
         "\u00e4", "a.\u00df", "a!\u00e9", "a!.\u0430", "\u0430", "a\u0301", "\uff41",
@@ -190,27 +190,36 @@ class NoTexts(unittest.TestCase):
                     found = parse_selectors(other)
                 except BadSelector:
                     continue
-                if not any(word.startswith(".") for word in other.split(" ")):
-                    self.assertEqual(selectors_text(found), other)
+                self.assertEqual(selectors_text(found), other)
 
 
-class LeftOutStars(unittest.TestCase):
-    """The example of `matching` in the interface has a part `.x`."""
+class NoStar(unittest.TestCase):
+    """A part without a kind has a text that begins with `*` (point 204)."""
 
-    def test_before_a_mark(self):
-        self.assertEqual(parse_selectors(".x"), (alone(None, ("x",)),))
-        self.assertEqual(parse_selectors(".x.y!b:2+1"), (alone(None, ("x", "y"), (("kind", "b"),), 2, 1),))
-        self.assertEqual(parse_selectors("a b, .x ~ *"), parse_selectors("a b, *.x ~ *"))
-        self.assertEqual(parse_selectors("a > .x, .y"), parse_selectors("a > *.x, *.y"))
-
-    def test_the_text_has_them(self):
-        self.assertEqual(selectors_text(parse_selectors(".x > .y")), "*.x > *.y")
-
-    def test_nowhere_else(self):
-        for text in ("!a", ":2+1", "a > !b", ".x :2+1", "a, ", ".", "..x", ".x.", ".X", ".y.x", ".x.x", ".a.b.c.d"):
+    def test_a_part_without_its_star(self):
+        for text in (
+            ".x", ".x.y", ".x!b", ".x!.y", ".x:2+1", ".x.y!b!.z:2+1", "!b", "!.x", ":2+1",
+            ".x, *, *, a, *", "*, *, .x, a", "a, b, .x", ".x, .y", "a, !b", ":0+1, a",
+        ):
             with self.subTest(text=text):
                 with self.assertRaises(BadSelector):
                     parse_selectors(text)
+
+    def test_every_part_without_its_star(self):
+        for text in ("*.x > *.y *.x + *.y ~ *.x", "*.x, *.y > a, b *.x", "*!a ~ *!.x, a + *:2+1", "*.x!b:0+3, *.x"):
+            self.assertEqual(selectors_text(parse_selectors(text)), text)
+            for at in [at for at, sign in enumerate(text) if sign == "*"]:
+                shorter = text[:at] + text[at + 1:]
+                with self.subTest(text=shorter):
+                    with self.assertRaises(BadSelector):
+                        parse_selectors(shorter)
+
+    def test_the_example_of_matching_in_the_interface(self):
+        # It has a part `.x`, which is the text of no part; `*.x` is what it means.
+        with self.assertRaises(BadSelector):
+            parse_selectors("a b, .x ~ *")
+        after_x = ((part(None, ("x",)), part()), ("after",))
+        self.assertEqual(parse_selectors("a b, *.x ~ *"), (linked("a", "inside", "b"), after_x))
 
 
 if __name__ == "__main__":

@@ -81,23 +81,15 @@ def _read_selector(text):
     return (tuple(parts), tuple(links[1:]))
 
 
-def _spelled(text):
-    """Return the text with the `*` that may be left out before a mark."""
-    # Point 204 always writes it, but the interface has an example without it.
-    words = [ANY_KIND + word if word.startswith(".") else word for word in text.split(" ")]
-    return " ".join(words)
-
-
 def parse_selectors(text):
     """Return the list of selectors with this text, or raise BadSelector if there is none."""
     if not isinstance(text, str):
         raise BadSelector()
     if text == "":
         return ()
-    spelled = _spelled(text)
-    found = check_list(tuple([_read_selector(word) for word in spelled.split(", ")]))
+    found = check_list(tuple([_read_selector(word) for word in text.split(", ")]))
     # Reading passes over a sign at an end, two signs in a row, a pair that is
     # not to be written and the like: the text of the list itself tells.
-    if selectors_text(found) != spelled:
+    if selectors_text(found) != text:
         raise BadSelector()
     return found
