@@ -3,8 +3,14 @@
 import unittest
 
 from treegarb import errors
+from treegarb.cascade import deciding, style_of
+from treegarb.deciding import contained
 from treegarb.documents import check_document, element_at
+from treegarb.engine import Engine
+from treegarb.matching import matches
+from treegarb.notation import parse_selectors
 from treegarb.selectors import check_list, check_selector
+from treegarb.sheets import check_sheet
 
 NAMES = ("BadDocument", "BadPlace", "BadSelector", "BadSheet", "TooMany")
 
@@ -38,6 +44,16 @@ class ErrorClasses(unittest.TestCase):
             (errors.BadSelector, lambda: check_selector(None)),
             (errors.BadSelector, lambda: check_list(None)),
             (errors.BadSelector, lambda: check_list((None,))),
+            (errors.BadSelector, lambda: parse_selectors(None)),
+            (errors.BadSelector, lambda: parse_selectors(".x")),
+            (errors.BadPlace, lambda: matches(("a", (), ()), (0,), parse_selectors("a")[0])),
+            (errors.TooMany, lambda: contained(parse_selectors("*.a *.b *.c *.d *.e"), ())),
+            (errors.BadSheet, lambda: check_sheet(None)),
+            (errors.BadSheet, lambda: check_sheet(((), ((None, ()),)))),
+            (errors.BadPlace, lambda: deciding(((), ()), ("a", (), ()), (0,), "color")),
+            (errors.BadPlace, lambda: style_of(((), ()), ("a", (), ()), (0,))),
+            (errors.BadPlace, lambda: Engine(((), ()), ("a", (), ())).apply(("remove", ()))),
+            (errors.BadDocument, lambda: Engine(((), ()), ("a", (), ())).apply(("mark", (), ("A",)))),
         )
         for error, call in calls:
             with self.subTest(error=error.__name__):

@@ -9,7 +9,7 @@ import unittest
 
 PACKAGE = pathlib.Path(__file__).resolve().parent.parent / "treegarb"
 
-# The interface as far as it has landed: the parameters, or None for a class.
+# The interface: the parameters of each function, or None for a class.
 INTERFACE = {
     "errors": {
         "StyleError": None,
@@ -49,6 +49,32 @@ INTERFACE = {
         "contained": ["first", "second"],
         "accepts": ["first", "second", "table"],
     },
+    "sheets": {
+        "check_sheet": ["value"],
+    },
+    "cascade": {
+        "deciding": ["sheet", "document", "place", "name"],
+        "style_of": ["sheet", "document", "place"],
+        "styles": ["sheet", "document"],
+    },
+    "engine": {
+        "Engine": None,
+    },
+    "shortening": {
+        "single_rules": ["sheet"],
+        "dropped": ["sheet"],
+        "shorten": ["sheet"],
+    },
+}
+
+# The methods that the interface lists for classes, and what creates an object.
+METHODS = {
+    ("engine", "Engine"): {
+        "__init__": ["self", "sheet", "document"],
+        "document": ["self"],
+        "styles": ["self"],
+        "apply": ["self", "change"],
+    },
 }
 
 # What may be imported from outside of the package: none of it tells the time,
@@ -83,6 +109,15 @@ class Interface(unittest.TestCase):
                         self.assertTrue(inspect.isclass(found))
                     else:
                         self.assertEqual(list(inspect.signature(found).parameters), parameters)
+
+
+    def test_each_method_is_defined_in_its_class(self):
+        for (module, name), methods in METHODS.items():
+            own = vars(getattr(importlib.import_module("treegarb." + module), name))
+            for method, parameters in methods.items():
+                with self.subTest(name=name, method=method):
+                    self.assertIn(method, own)
+                    self.assertEqual(list(inspect.signature(own[method]).parameters), parameters)
 
 
 class NoOutsideWorld(unittest.TestCase):

@@ -26,9 +26,9 @@ def _period(pairs):
     return found
 
 
-def _truths(mask, begin, length):
-    """Return so many bits of a mask as truth values."""
-    return tuple([(mask >> at) & 1 == 1 for at in range(begin, begin + length)])
+def _truths(bits, length):
+    """Return so many bits as truth values, the lowest one first."""
+    return tuple([(bits >> at) & 1 == 1 for at in range(length)])
 
 
 class Machine:
@@ -48,6 +48,8 @@ class Machine:
         self._counted = len(pairs) > 0
         self._greatest = max([pair[1] for pair in pairs], default=0)
         self._turn = _period(pairs)
+        # The answers of `_told`: a table has few different ones.
+        self._truths = {}
 
     def fitting(self, letter):
         """Return the mask of the parts that describe the letter."""
@@ -83,7 +85,8 @@ class Machine:
         rows = []
         begin = 0
         for length in self._plan.lengths:
-            rows.append(tuple([_truths(mask, begin, length) for mask in state[2:]]))
+            row = [(mask >> begin) & ((1 << length) - 1) for mask in state[2:]]
+            rows.append(tuple([self._told(bits, length) for bits in row]))
             begin += length
         return (state[0], state[1], tuple(rows))
 
@@ -102,6 +105,12 @@ class Machine:
     def sizes(self):
         """Return the numbers of parts of the selectors of both lists."""
         return self._plan.lengths
+
+    def _told(self, bits, length):
+        """Return so many bits as truth values, the same tuple for the same bits."""
+        if (bits, length) not in self._truths:
+            self._truths[bits, length] = _truths(bits, length)
+        return self._truths[bits, length]
 
     def _opened(self, depth, count, view):
         """Return the open state of an element with this count and this open view."""
